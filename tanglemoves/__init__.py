@@ -1,0 +1,1 @@
+"""Hitch: transforming one tangle into another by moves."""
