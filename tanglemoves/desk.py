@@ -7,6 +7,9 @@ LOAD_FIRST = 1
 LOAD_SECOND = 2
 FIND_PATH = 3
 PATH_WORD = 4
+COMMON = 5
+SMALLEST = 6
+DIFFERENCE = 7
 
 
 class UnknownCall(ValueError):
@@ -69,4 +72,11 @@ def outcome(tape, hitch):
         return hitch.find_path(tape.take_number())
     if call == PATH_WORD:
         return hitch.path_word(tape.take_number())
+    if call == COMMON:
+        return hitch.common(tape.take_number())
+    if call == SMALLEST:
+        which = tape.take_number()
+        return hitch.smallest(which, tape.take_number())
+    if call == DIFFERENCE:
+        return hitch.first_difference()
     raise UnknownCall()

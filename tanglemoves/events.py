@@ -39,6 +39,16 @@ def crossing_count(word):
     return len([kind for kind, strand in word if is_crossing(kind)])
 
 
+def cup_count(word):
+    """How many events of a word are cups."""
+    return len([kind for kind, strand in word if kind == CUP])
+
+
+def size(word):
+    """By what words are ordered: their lengths, then event by event kinds and strands."""
+    return (len(word), word)
+
+
 def event_exists(kind, strand, strands):
     """Whether an event at a strand, 1 or more, is possible where there are so many strands."""
     if kind == CUP:

@@ -1,12 +1,16 @@
 """The state, two tangles and a path, and the operations on it."""
 
-from tanglemoves.events import crossing_count
-from tanglemoves.levels import words_reached
+from tanglemoves.comparison import number_of_difference
+from tanglemoves.events import crossing_count, size
+from tanglemoves.levels import words_in_both, words_reached
 from tanglemoves.paths import meeting_point, path_over
 from tanglemoves.reader import main_tangle
 from tanglemoves.refusals import NoSuchWord, NotLoaded, OutOfRange, TopsDiffer
 
 MOST_MOVES = 4
+# Which tangle is meant.
+FIRST = 1
+SECOND = 2
 
 
 class Hitch:
@@ -57,6 +61,29 @@ class Hitch:
         if index >= len(self.path):
             raise NoSuchWord()
         return word_numbers(self.path[index])
+
+    def common(self, moves):
+        """How many words are reached from both tangles, and from each."""
+        self.check_loaded()
+        check_moves(moves)
+        first = words_reached(self.first.word, moves)
+        second = words_reached(self.second.word, moves)
+        return [len(words_in_both(first, second)), len(first.words), len(second.words)]
+
+    def smallest(self, which, moves):
+        """The smallest word that is reached from one of the tangles."""
+        self.check_loaded()
+        if which != FIRST and which != SECOND:
+            raise OutOfRange()
+        check_moves(moves)
+        tangle = self.first if which == FIRST else self.second
+        reached = words_reached(tangle.word, moves)
+        return word_numbers(min(reached.words, key=size))
+
+    def first_difference(self):
+        """The number of the first difference between the tangles, or 0."""
+        self.check_loaded()
+        return [number_of_difference(self.first, self.second)]
 
 
 def check_moves(moves):

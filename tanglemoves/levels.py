@@ -32,6 +32,11 @@ def words_reached(start, moves):
     return reached
 
 
+def words_in_both(first, second):
+    """The words reached from both of two words, in the order of the first one."""
+    return [word for word in first.words if word in second.levels]
+
+
 def next_level(reached, newest, level):
     """Puts the words of a level, that follows the newest one, among those reached."""
     found = []

@@ -1,17 +1,18 @@
 """Paths from one tangle's word to another's, over a word that is reached from both."""
 
+from tanglemoves.levels import words_in_both
+
 
 def meeting_point(first, second):
     """The word where the ways from both tangles meet, or None if none is reached from both."""
     meeting = None
     least = 0
     # The first tangle's words come level by level, so of equal sums the first one counts.
-    for word in first.words:
-        if word in second.levels:
-            levels = first.levels[word] + second.levels[word]
-            if meeting is None or levels < least:
-                meeting = word
-                least = levels
+    for word in words_in_both(first, second):
+        levels = first.levels[word] + second.levels[word]
+        if meeting is None or levels < least:
+            meeting = word
+            least = levels
     return meeting
 
 

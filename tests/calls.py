@@ -32,6 +32,18 @@ def path_word(index):
     return [4, index]
 
 
+def common(moves):
+    return [5, moves]
+
+
+def smallest(which, moves):
+    return [6, which, moves]
+
+
+def difference():
+    return [7]
+
+
 def run(*calls):
     """The answer of each call, when all of them are handed in as one list."""
     given = answers([number for call in calls for number in call])
@@ -79,6 +91,11 @@ def shown(numbers):
 def tangle(top, lines):
     """The text of a tangle with these lines."""
     return "/".join(["tie a %d" % top] + ([lines] if lines else []) + ["end"])
+
+
+def difference_of(first, second):
+    """What difference answers for two texts."""
+    return run(load_first(first), load_second(second), difference())[2]
 
 
 def path_between(first, second, moves):

@@ -1,4 +1,5 @@
-"""A second, slow reading of the document's moves, levels and paths, to compare the program with.
+"""A second, slow reading of the document's moves, levels, paths and order of words, to compare
+the program with.
 
 It takes the table's rows as they are printed and tries every crossing and strand for their
 letters. Words are tuples of (kind, strand), as in the program.
@@ -122,6 +123,28 @@ def path(first, second, count):
         place(ours, word)[0] + place(theirs, word)[0], place(ours, word)))
     there = chain(ours, meeting)
     return there + chain(theirs, meeting)[-2::-1], len(there) - 1
+
+
+def smaller(one, other):
+    """Whether a word is smaller than another, in the document's words."""
+    if len(one) != len(other):
+        return len(one) < len(other)
+    order = ["over", "under", "cup", "cap"]
+    for (kind, strand), (other_kind, other_strand) in zip(one, other):
+        names = [name for name in order if KIND_OF_NAME[name] in (kind, other_kind)]
+        if len(names) == 2:
+            return KIND_OF_NAME[names[0]] == kind
+        if strand != other_strand:
+            return strand < other_strand
+    return False
+
+
+def smallest(words):
+    """The one that is smaller than all others."""
+    found = [word for word in words if all(smaller(word, other) for other in words if other != word)]
+    if len(found) != 1:
+        raise AssertionError("not one smallest word")
+    return found[0]
 
 
 def events_at(strands):
